@@ -1,0 +1,34 @@
+package whole
+
+import "testing"
+
+func TestQuotients(t *testing.T) {
+	for _, c := range []struct{ a, b, floor, ceil int }{{7, 2, 3, 4}, {-7, 2, -4, -3}, {6, 2, 3, 3}, {-6, 2, -3, -3}, {0, 5, 0, 0}, {1, 5, 0, 1}, {-1, 5, -1, 0}} {
+		if n := Floor(c.a, c.b); n != c.floor {
+			t.Errorf("Floor(%d, %d) = %d", c.a, c.b, n)
+		}
+		if n := Ceil(c.a, c.b); n != c.ceil {
+			t.Errorf("Ceil(%d, %d) = %d", c.a, c.b, n)
+		}
+	}
+}
+
+func TestLowest(t *testing.T) {
+	for _, c := range [][4]int{{6, 4, 3, 2}, {-6, 4, -3, 2}, {0, 7, 0, 1}, {5, 1, 5, 1}, {3, 9, 1, 3}} {
+		if n, d := Lowest(c[0], c[1]); n != c[2] || d != c[3] {
+			t.Errorf("Lowest(%d, %d) = %d, %d", c[0], c[1], n, d)
+		}
+	}
+}
+
+func TestRanges(t *testing.T) {
+	if !Within(1, 3) || !Within(1, 3, 1, 3) || Within(1, 3, 2, 4) || Within(1, 3, 0) {
+		t.Error("Within")
+	}
+	if !Ascending() || !Ascending(1) || !Ascending(1, 2, 5) || Ascending(1, 1) || Ascending(2, 1) {
+		t.Error("Ascending")
+	}
+	if Abs(-3) != 3 || Abs(3) != 3 || Abs(0) != 0 {
+		t.Error("Abs")
+	}
+}
