@@ -44,3 +44,26 @@ func Lowest(num, den int) (int, int) {
 	}
 	return num / a, den / a
 }
+
+// Last returns the last number from low to high of which is is true, if it is true up to some number and false from there on.
+func Last(low, high int, is func(n int) bool) (int, bool) {
+	n, found := First(low, high, func(n int) bool { return !is(n) })
+	if !found {
+		return high, low <= high
+	}
+	return n - 1, n > low
+}
+
+// First returns the first number from low to high of which is is true, if it is false up to some number and true from there on.
+func First(low, high int, is func(n int) bool) (int, bool) {
+	end := high
+	for low <= high {
+		middle := low + (high-low)/2
+		if is(middle) {
+			high = middle - 1
+		} else {
+			low = middle + 1
+		}
+	}
+	return low, low <= end
+}

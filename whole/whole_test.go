@@ -32,3 +32,22 @@ func TestRanges(t *testing.T) {
 		t.Error("Abs")
 	}
 }
+
+func TestFirstAndLast(t *testing.T) {
+	for n := -3; n <= 5; n++ {
+		k, is := First(-2, 4, func(i int) bool { return i >= n })
+		if is != (n <= 4) || is && k != max(n, -2) {
+			t.Errorf("First from %d on = %d, %v", n, k, is)
+		}
+		k, is = Last(-2, 4, func(i int) bool { return i <= n })
+		if is != (n >= -2) || is && k != min(n, 4) {
+			t.Errorf("Last up to %d = %d, %v", n, k, is)
+		}
+	}
+	if _, is := First(1, 0, func(int) bool { return true }); is {
+		t.Error("First of nothing")
+	}
+	if _, is := Last(1, 0, func(int) bool { return true }); is {
+		t.Error("Last of nothing")
+	}
+}
