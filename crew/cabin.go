@@ -4,8 +4,8 @@ import (
 	"iter"
 
 	"swashplate/api"
+	"swashplate/check"
 	"swashplate/rotor"
-	"swashplate/spans"
 	"swashplate/whole"
 )
 
@@ -28,7 +28,7 @@ func checkGuests(l []api.Guest, most int) api.Errno {
 		return api.ErrMany
 	}
 	for _, g := range l {
-		if !whole.Within(1, api.MaxGuest, g.Weight) || !whole.Within(0, api.MaxTime, g.Dive) {
+		if !whole.Within(1, api.MaxGuest, g.Weight) || !check.Ticks(g.Dive) {
 			return api.ErrGuest
 		}
 	}
@@ -43,7 +43,7 @@ func checkLoad(c api.Cabin, l []api.Guest, fuel api.Span) api.Errno {
 	if e := checkGuests(l, len(c.Seats)); e != api.OK {
 		return e
 	}
-	if spans.Check(api.Box{fuel}) != api.OK || !whole.Within(0, api.MaxEmpty, fuel.Low, fuel.High) {
+	if !check.Inside(0, api.MaxEmpty, fuel) {
 		return api.ErrSpan
 	}
 	return api.OK
@@ -110,7 +110,7 @@ func Wet(l []api.Guest, tick int) ([]int, api.Errno) {
 	if e := checkGuests(l, api.MaxSeats); e != api.OK {
 		return nil, e
 	}
-	if !whole.Within(0, api.MaxTime, tick) {
+	if !check.Ticks(tick) {
 		return nil, api.ErrArg
 	}
 	var wet []int

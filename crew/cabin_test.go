@@ -9,15 +9,14 @@ import (
 
 	"swashplate/api"
 	"swashplate/rotor"
+	"swashplate/samples"
 )
 
 func span(low, high int) api.Span { return api.Span{Low: low, High: high} }
 
-func cabin() api.Cabin {
-	return api.Cabin{Empty: 1000, Seats: []api.Seat{{Arm: 20, Exit: true}, {Arm: -20}, {Arm: 40}}, FuelArm: 10, Low: -2, High: 5}
-}
+func cabin() api.Cabin { return samples.Cabin() }
 
-func guests() []api.Guest { return []api.Guest{{Weight: 100}, {Weight: 80, Able: true}} }
+func guests() []api.Guest { return samples.Guests() }
 
 func fuel() api.Span { return span(0, 200) }
 
@@ -223,21 +222,10 @@ func TestP10_15EveryAmountOfFuel(t *testing.T) {
 	}
 }
 
-func table(x, y []int, values ...[]int) api.Table { return api.Table{X: x, Y: y, Values: values} }
-
 func helicopter() (api.Rotor, api.Air) {
-	heavy := []int{1000, 2000}
-	return api.Rotor{
-		Hover:    table(heavy, []int{0, 40}, []int{400, 500}, []int{900, 1100}),
-		Ground:   table([]int{0, 20}, []int{0, 30}, []int{70, 80}, []int{100, 100}),
-		Level:    table([]int{0, 50, 100}, heavy, []int{400, 900}, []int{250, 500}, []int{500, 800}),
-		Power:    table([]int{0, 40}, []int{0, 1000}, []int{1200, 1000}, []int{1000, 800}),
-		Never:    table(heavy, []int{0, 40}, []int{120, 110}, []int{100, 90}),
-		RingLow:  table([]int{0, 30}, heavy, []int{5, 6}, []int{12, 14}),
-		RingHigh: table([]int{0, 30}, heavy, []int{15, 18}, []int{12, 14}),
-		Glide:    table([]int{30, 90}, heavy, []int{20, 24}, []int{16, 20}),
-		Climb:    10, Burn: 200,
-	}, api.Air{Weight: span(1, 2), Temp: span(0, 20), Wind: span(0, 30)}
+	a := samples.Air()
+	a.Weight = span(1, 2)
+	return samples.Rotor(), a
 }
 
 func TestP10_11And16Lifts(t *testing.T) {

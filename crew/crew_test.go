@@ -7,20 +7,14 @@ import (
 	"testing"
 
 	"swashplate/api"
+	"swashplate/samples"
 )
 
-func example() api.Roster {
-	return api.Roster{
-		People:  []api.Person{{Ratings: 3, Rank: 2, Dive: 100}, {Ratings: 1, Rank: 1, Dive: 50}, {Ratings: 2, Rank: 3, Dive: 100}},
-		Longest: 10, Rest: 8, Window: 24, Total: 14, Recent: 40,
-	}
-}
+func example() api.Roster { return samples.Roster() }
 
 func duty(person, from, to int) api.Duty { return api.Duty{Person: person, From: from, To: to} }
 
-func duties(more ...api.Duty) []api.Duty {
-	return append([]api.Duty{duty(0, 0, 8), duty(1, 2, 10)}, more...)
-}
+func duties(more ...api.Duty) []api.Duty { return append(samples.Duties(), more...) }
 
 func call(from, to, craft int, water bool) api.Call {
 	return api.Call{From: from, To: to, Craft: craft, Water: water}

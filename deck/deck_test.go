@@ -7,6 +7,7 @@ import (
 	"testing"
 
 	"swashplate/api"
+	"swashplate/samples"
 	"swashplate/weather"
 )
 
@@ -17,32 +18,13 @@ func sky(wind, see, ceiling api.Span, wild bool) api.Sky {
 }
 
 // met is that of the layer 4.
-func met() api.Met {
-	return api.Met{
-		Places: 2, Any: sky(span(0, 60), span(0, 10000), span(0, 3000), true), Wind: 5, See: 1000, Ceiling: 200,
-		Forecasts: []api.Forecast{
-			{Place: 0, From: 0, To: 20, Issued: 0, Sky: sky(span(10, 30), span(4000, 8000), span(500, 2000), false)},
-			{Place: 0, From: 10, To: 20, Issued: 5, Sky: sky(span(25, 40), span(1000, 3000), span(300, 900), false)},
-		},
-		Sights: []api.Sight{{Place: 1, At: 4, Now: api.Weather{Wind: 20, See: 6000, Ceiling: 1500}}},
-	}
-}
+func met() api.Met { return samples.Met() }
 
-func ship() api.Deck {
-	return api.Deck{
-		Size: 20, Load: 9000, Wind: 40, Sectors: []api.Sector{{From: 300, To: 60, Wind: 28}, {From: 150, To: 200, Wind: 25}},
-		Pitch: 3, Roll: 3, Heave: 2, Fire: 3, Shifts: []api.Shift{{From: 0, To: 12, People: 2}, {From: 4, To: 20, People: 2}},
-		Shut: []api.Span{span(6, 6)},
-	}
-}
+func ship() api.Deck { return samples.Deck() }
 
-func swell() api.Motion {
-	return api.Motion{Pitch: []int{0, 1, 4, 0, 0, 1, 1, 0, 0, 0}, Roll: make([]int, 10), Heave: []int{0, 1, 2, 2, 5, 6, 6, 7, 7, 8}}
-}
+func swell() api.Motion { return samples.Motion() }
 
-func approach() api.Approach {
-	return api.Approach{Size: 18, Weight: 8000, Minima: api.Minima{Wind: 35, See: 3000, Ceiling: 400}, Place: 0, Wind: span(90, 100)}
-}
+func approach() api.Approach { return samples.Approach() }
 
 func changed(change func(a *api.Approach)) api.Approach {
 	a := approach()

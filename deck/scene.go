@@ -2,15 +2,10 @@ package deck
 
 import (
 	"swashplate/api"
-	"swashplate/spans"
+	"swashplate/check"
 	"swashplate/weather"
 	"swashplate/whole"
 )
-
-// lies reports whether a span is valid, with numbers from 0 to most.
-func lies(s api.Span, most int) bool {
-	return spans.Check(api.Box{s}) == api.OK && whole.Within(0, most, s.Low, s.High)
-}
 
 // Check returns ErrDeck unless a deck is valid.
 func Check(d api.Deck) api.Errno {
@@ -21,12 +16,9 @@ func Check(d api.Deck) api.Errno {
 		right = right && whole.Within(0, 359, s.From, s.To) && whole.Within(0, api.MaxWind, s.Wind)
 	}
 	for _, s := range d.Shifts {
-		right = right && areTicks(s.From, s.To) && whole.Within(1, 100, s.People)
+		right = right && check.Period(s.From, s.To) && whole.Within(1, 100, s.People)
 	}
-	for _, s := range d.Shut {
-		right = right && lies(s, api.MaxTime)
-	}
-	if !right {
+	if !right || !check.Inside(0, api.MaxTime, d.Shut...) {
 		return api.ErrDeck
 	}
 	return api.OK
@@ -69,10 +61,7 @@ func checkApproach(m api.Met, a api.Approach) api.Errno {
 }
 
 // isWind reports whether a span can be directions of the wind: on a second turn it may go over 0.
-func isWind(s api.Span) bool { return lies(s, 719) }
-
-// areTicks reports whether there are ticks from one on, before another one.
-func areTicks(from, to int) bool { return whole.Within(0, api.MaxTime, from, to) && from < to }
+func isWind(s api.Span) bool { return check.Inside(0, 719, s) }
 
 // conditions is how many conditions an open deck has.
 const conditions = 6

@@ -8,39 +8,16 @@ import (
 
 	"swashplate/api"
 	"swashplate/rotor"
+	"swashplate/samples"
 )
 
 func span(low, high int) api.Span { return api.Span{Low: low, High: high} }
 
-func table(x, y []int, values ...[]int) api.Table { return api.Table{X: x, Y: y, Values: values} }
+func craft() api.Craft { return samples.Craft() }
 
-// helicopter is the rotor R of the layer 2.
-func helicopter() api.Rotor {
-	heavy := []int{1000, 2000}
-	return api.Rotor{
-		Hover:    table(heavy, []int{0, 40}, []int{400, 500}, []int{900, 1100}),
-		Ground:   table([]int{0, 20}, []int{0, 30}, []int{70, 80}, []int{100, 100}),
-		Level:    table([]int{0, 50, 100}, heavy, []int{400, 900}, []int{250, 500}, []int{500, 800}),
-		Power:    table([]int{0, 40}, []int{0, 1000}, []int{1200, 1000}, []int{1000, 800}),
-		Never:    table(heavy, []int{0, 40}, []int{120, 110}, []int{100, 90}),
-		RingLow:  table([]int{0, 30}, heavy, []int{5, 6}, []int{12, 14}),
-		RingHigh: table([]int{0, 30}, heavy, []int{15, 18}, []int{12, 14}),
-		Glide:    table([]int{30, 90}, heavy, []int{20, 24}, []int{16, 20}),
-		Climb:    10, Burn: 200,
-	}
-}
+func air() api.Air { return samples.Air() }
 
-func craft() api.Craft {
-	return api.Craft{Rotor: helicopter(), One: 50, Unit: 25, Step: 10, Top: 3, Drop: 2, Touch: 1, Sink: 1}
-}
-
-func air() api.Air {
-	return api.Air{Weight: span(1000, 1500), Temp: span(0, 20), Height: alone(0), Wind: span(0, 30)}
-}
-
-func field() api.Field {
-	return api.Field{Length: 4, Clear: 3, Safe: 2, Hindrances: []api.Hindrance{{At: 6, Height: 2}}}
-}
+func field() api.Field { return samples.Field() }
 
 func pose(x, speed, height int) api.Pose { return api.Pose{X: x, Speed: speed, Height: height} }
 

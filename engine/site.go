@@ -4,6 +4,7 @@ import (
 	"iter"
 
 	"swashplate/api"
+	"swashplate/check"
 	"swashplate/rotor"
 	"swashplate/spans"
 	"swashplate/whole"
@@ -34,10 +35,6 @@ type site struct {
 
 func alone(n int) api.Span { return api.Span{Low: n, High: n} }
 
-func onAxis(knots []int, numbers ...int) bool {
-	return whole.Within(knots[0], knots[len(knots)-1], numbers...)
-}
-
 // checkCraft returns the errors of a craft.
 func checkCraft(c api.Craft) api.Errno {
 	if e := rotor.Check(c.Rotor); e != api.OK {
@@ -45,7 +42,7 @@ func checkCraft(c api.Craft) api.Errno {
 	}
 	right := whole.Within(0, 100, c.One) && whole.Within(1, 1000, c.Unit, c.Step) && whole.Within(1, api.MaxTop, c.Top) &&
 		whole.Within(1, api.MaxDrop, c.Drop) && whole.Within(0, c.Top, c.Touch) && whole.Within(1, c.Drop, c.Sink)
-	if !right || !onAxis(c.Rotor.Level.X, 0, c.Top*c.Unit) || !onAxis(c.Rotor.RingLow.X, 0) {
+	if !right || !check.OnAxis(c.Rotor.Level.X, alone(0), alone(c.Top*c.Unit)) || !check.OnAxis(c.Rotor.RingLow.X, alone(0)) {
 		return api.ErrCraft
 	}
 	return api.OK
@@ -53,14 +50,11 @@ func checkCraft(c api.Craft) api.Errno {
 
 // checkAir returns the errors of an air in which a craft flies.
 func checkAir(c api.Craft, a api.Air) api.Errno {
-	for _, s := range [4]api.Span{a.Weight, a.Temp, a.Height, a.Wind} {
-		if spans.Check(api.Box{s}) != api.OK {
-			return api.ErrAir
-		}
+	if !check.Spans(a.Weight, a.Temp, a.Height, a.Wind) {
+		return api.ErrAir
 	}
 	r := c.Rotor
-	if !onAxis(r.Power.X, a.Temp.Low, a.Temp.High) || !onAxis(r.Power.Y, a.Height.Low, a.Height.High) ||
-		!onAxis(r.Level.Y, a.Weight.Low, a.Weight.High) || !onAxis(r.RingLow.Y, a.Weight.Low, a.Weight.High) {
+	if !check.OnAxis(r.Power.X, a.Temp) || !check.OnAxis(r.Power.Y, a.Height) || !check.OnAxis(r.Level.Y, a.Weight) || !check.OnAxis(r.RingLow.Y, a.Weight) {
 		return api.ErrArg
 	}
 	return api.OK
@@ -115,7 +109,7 @@ func (s *site) measure(a api.Air) {
 		for engines, power := range least {
 			s.rates[engines][n] = whole.Floor(power-level.High, s.Rotor.Climb*s.Step)
 		}
-		if !onAxis(s.Rotor.RingLow.X, speed.Low) {
+		if !check.OnAxis(s.Rotor.RingLow.X, speed) {
 			continue
 		}
 		for sink := 1; sink <= s.Drop; sink++ {

@@ -11,26 +11,14 @@ import (
 	"swashplate/crew"
 	"swashplate/parts"
 	"swashplate/route"
+	"swashplate/samples"
 	"swashplate/weather"
 )
 
 func span(low, high int) api.Span { return api.Span{Low: low, High: high} }
 
 // example is the fleet of the document.
-func example() api.Fleet {
-	return api.Fleet{
-		Met:      api.Met{Places: 3, Any: api.Sky{Wind: span(0, 10), See: span(5000, 9000), Ceiling: span(1000, 3000)}},
-		Minima:   api.Minima{Wind: 20, See: 3000, Ceiling: 500},
-		Net:      []api.Leg{{A: 0, B: 1, Ticks: 5}, {A: 1, B: 2, Ticks: 4}},
-		Register: api.Register{Kinds: []api.Kind{{Hours: 1000, Cycles: 1000}}, Machines: 2},
-		Roster: api.Roster{
-			People:  []api.Person{{Ratings: 1, Rank: 2}, {Ratings: 1, Rank: 2}, {Ratings: 1, Rank: 1}, {Ratings: 1, Rank: 1}},
-			Longest: 60, Window: 100, Total: 100, Recent: 100,
-		},
-		Bases: []int{0, 1}, Crafts: []int{0, 0}, Turn: 2, Hour: 10, Cover: 1, Until: 60,
-		Jobs: []api.Job{{From: 0, To: 1, Depart: 10, Value: 5}, {From: 1, To: 2, Depart: 12, Value: 4}, {From: 0, To: 2, Depart: 30, Value: 7}},
-	}
-}
+func example() api.Fleet { return samples.Fleet() }
 
 // foggy closes a place from a tick on, before another one.
 func foggy(f api.Fleet, place, from, to int) api.Fleet {
@@ -50,7 +38,7 @@ func sortie(job, machine, commander, mate int) api.Sortie {
 	return api.Sortie{Job: job, Machine: machine, Commander: commander, Mate: mate}
 }
 
-func best() []api.Sortie { return []api.Sortie{sortie(0, 0, 0, 1), sortie(2, 0, 0, 1)} }
+func best() []api.Sortie { return samples.Plan() }
 
 func TestP11_1Check(t *testing.T) {
 	for i, f := range []api.Fleet{

@@ -8,12 +8,11 @@ import (
 	"testing"
 
 	"swashplate/api"
+	"swashplate/samples"
 )
 
 // example is the vibration V of the document.
-func example() api.Vibration {
-	return api.Vibration{Samples: []int{0, 2, 4, 2, 0, -2, 0, 4, 8, 4, 0, -4, 0}, Marks: []int{0, 6, 12}}
-}
+func example() api.Vibration { return samples.Vibration() }
 
 func TestP8_1Check(t *testing.T) {
 	long := api.Vibration{Samples: slices.Repeat([]int{100, -100}, 200), Marks: []int{0, 1, 2, 3, 4, 5, 6, 7, 399}}

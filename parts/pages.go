@@ -2,7 +2,7 @@ package parts
 
 import (
 	"swashplate/api"
-	"swashplate/spans"
+	"swashplate/check"
 	"swashplate/stretch"
 	"swashplate/whole"
 )
@@ -25,10 +25,8 @@ func on(hours int, pages []api.Span, meant func(n int) bool) ([]api.Span, api.Er
 	if len(pages) > api.MaxBoxes {
 		return nil, api.ErrMany
 	}
-	for _, p := range pages {
-		if spans.Check(api.Box{p}) != api.OK || !whole.Within(0, hours-1, p.Low, p.High) {
-			return nil, api.ErrSpan
-		}
+	if !check.Inside(0, hours-1, pages...) {
+		return nil, api.ErrSpan
 	}
 	return stretch.Where(0, hours, 1, func(hour int) bool {
 		n := 0

@@ -7,6 +7,7 @@ import (
 	"testing"
 
 	"swashplate/api"
+	"swashplate/samples"
 )
 
 func work(numbers ...int) api.Work {
@@ -15,17 +16,9 @@ func work(numbers ...int) api.Work {
 }
 
 // example is the register of the document, and works its works W.
-func example() api.Register {
-	return api.Register{
-		Kinds:    []api.Kind{{Hours: 100, Cycles: 50, Places: 1}, {Hours: 1000, Cycles: 1000, Places: 2}},
-		Parts:    []api.Part{{Kind: 0, Hours: 90, Cycles: 10, Known: true}, {Kind: 0, Known: true}, {Kind: 1, Known: true}, {Kind: 1, Known: true}},
-		Machines: 1, Orders: []api.Order{{Kind: 1, Within: 5}},
-	}
-}
+func example() api.Register { return samples.Register() }
 
-func works(more ...api.Work) []api.Work {
-	return append([]api.Work{work(api.Fitted, 0, 0, 0), work(api.Fitted, 2, 0, 0), work(api.Fitted, 3, 0, 1), work(api.Flown, 0, 4, 3)}, more...)
-}
+func works(more ...api.Work) []api.Work { return append(samples.Works(), more...) }
 
 func TestP9_1CheckOfRegisters(t *testing.T) {
 	great := api.Register{Kinds: slices.Repeat([]api.Kind{{Hours: 100000, Cycles: 100000, Places: 4}}, 6), Parts: slices.Repeat([]api.Part{{Kind: 5, Hours: 100000, Cycles: 100000}}, 24), Machines: 4, Orders: slices.Repeat([]api.Order{{Kind: 5, Within: 100000}}, 6)}

@@ -4,7 +4,7 @@ import (
 	"slices"
 
 	"swashplate/api"
-	"swashplate/spans"
+	"swashplate/check"
 	"swashplate/whole"
 )
 
@@ -15,13 +15,10 @@ func checkCase(c api.Case, claim, tick int) api.Errno {
 		right = right && whole.Ascending(x.Needs...) && whole.Within(0, i-1, x.Needs...) &&
 			whole.Ascending(x.Proofs...) && whole.Within(0, len(c.Proofs)-1, x.Proofs...)
 	}
-	for _, p := range c.Proofs {
-		right = right && spans.Check(api.Box{p}) == api.OK && whole.Within(0, api.MaxTime, p.Low, p.High)
-	}
-	if !right {
+	if !right || !check.Inside(0, api.MaxTime, c.Proofs...) {
 		return api.ErrCase
 	}
-	if !whole.Within(0, len(c.Claims)-1, claim) || !whole.Within(0, api.MaxTime, tick) {
+	if !whole.Within(0, len(c.Claims)-1, claim) || !check.Ticks(tick) {
 		return api.ErrArg
 	}
 	return api.OK

@@ -7,15 +7,11 @@ import (
 	"testing"
 
 	"swashplate/api"
+	"swashplate/samples"
 )
 
 // safety is the case of the document.
-func safety() api.Case {
-	return api.Case{
-		Claims: []api.Claim{{Proofs: []int{0, 1}}, {Needs: []int{0}, Proofs: []int{2}, Any: true}, {Needs: []int{0, 1}}},
-		Proofs: []api.Span{span(0, 10), span(5, 20), span(8, 30)},
-	}
-}
+func safety() api.Case { return samples.Case() }
 
 func TestP12_9HoldsAndUntil(t *testing.T) {
 	for _, c := range []struct {

@@ -8,22 +8,15 @@ import (
 
 	"swashplate/api"
 	"swashplate/parts"
+	"swashplate/samples"
 )
 
 func span(low, high int) api.Span { return api.Span{Low: low, High: high} }
 
 // example is the layout L of the document.
-func example() api.Layout {
-	return api.Layout{Words: 4, Sync: [4]int{100, 200, 300, 400}, Fields: []api.Bits{
-		{Word: 1, Bit: 0, Size: 8, Signed: true, Num: 1, Den: 2, Add: 10, Every: 1},
-		{Word: 2, Bit: 4, Size: 3, Num: 5, Den: 1, Every: 2, Phase: 1},
-		{Word: 3, Bit: 0, Size: 1, Num: 1, Den: 1, Every: 1},
-	}}
-}
+func example() api.Layout { return samples.Layout() }
 
-func frames(more ...[]int) [][]int {
-	return append([][]int{{100, 4, 0, 0}, {200, 254, 48, 1}, {300, 6, 0, 0}}, more...)
-}
+func frames(more ...[]int) [][]int { return append(samples.Frames(), more...) }
 
 // marks are frames with the field 2 as told.
 func marks(is ...int) [][]int {

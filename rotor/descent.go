@@ -2,6 +2,7 @@ package rotor
 
 import (
 	"swashplate/api"
+	"swashplate/check"
 	"swashplate/whole"
 )
 
@@ -39,7 +40,7 @@ func Descent(r api.Rotor, a api.Air, l []api.Drop) (lost api.Span, at int, e api
 		}
 		lost = span(lost.Low+d.Sink.Low*d.Ticks, lost.High+d.Sink.High*d.Ticks)
 	}
-	if !valid(lost) {
+	if !check.Spans(lost) {
 		return api.Span{}, 0, api.ErrMany
 	}
 	return lost, 0, api.OK
@@ -47,7 +48,7 @@ func Descent(r api.Rotor, a api.Air, l []api.Drop) (lost api.Span, at int, e api
 
 // drops returns the errors of a drop.
 func (m machine) drops(d api.Drop) api.Errno {
-	if !whole.Within(0, api.MaxTicks, d.Ticks) || !valid(d.Speed, d.Sink) || !m.ring(m.RingLow, d.Speed).lies() {
+	if !whole.Within(0, api.MaxTicks, d.Ticks) || !check.Spans(d.Speed, d.Sink) || !m.ring(m.RingLow, d.Speed).lies() {
 		return api.ErrArg
 	}
 	if m.wake(d.Speed, d.Sink) {

@@ -4,6 +4,7 @@ import (
 	"slices"
 
 	"swashplate/api"
+	"swashplate/check"
 	"swashplate/spans"
 	"swashplate/whole"
 )
@@ -65,16 +66,12 @@ type look struct {
 }
 
 // lies reports whether the box of a look lies on its table.
-func (l look) lies() bool { return onAxis(l.X, l.x) && onAxis(l.Y, l.y) }
+func (l look) lies() bool { return check.OnAxis(l.X, l.x) && check.OnAxis(l.Y, l.y) }
 
 // bound returns all values; the look lies on its table.
 func (l look) bound() api.Span {
 	s, _ := spans.Bound(l.Table, l.x, l.y)
 	return s
-}
-
-func onAxis(knots []int, s api.Span) bool {
-	return whole.Within(knots[0], knots[len(knots)-1], s.Low, s.High)
 }
 
 // ready returns a machine with which the tables that looks names can be looked up; further are the spans that a call has besides the air.
@@ -83,10 +80,10 @@ func ready(r api.Rotor, a api.Air, looks func(m machine) []look, further ...api.
 	if e := Check(r); e != api.OK {
 		return m, e
 	}
-	if !valid(a.Weight, a.Temp, a.Height, a.Wind) {
+	if !check.Spans(a.Weight, a.Temp, a.Height, a.Wind) {
 		return m, api.ErrAir
 	}
-	if !valid(further...) {
+	if !check.Spans(further...) {
 		return m, api.ErrArg
 	}
 	for _, l := range looks(m) {
@@ -95,15 +92,6 @@ func ready(r api.Rotor, a api.Air, looks func(m machine) []look, further ...api.
 		}
 	}
 	return m, api.OK
-}
-
-func valid(l ...api.Span) bool {
-	for _, s := range l {
-		if spans.Check(api.Box{s}) != api.OK {
-			return false
-		}
-	}
-	return true
 }
 
 func (m machine) hover() look { return look{m.Hover, m.Weight, m.Temp} }

@@ -7,31 +7,17 @@ import (
 	"testing"
 
 	"swashplate/api"
+	"swashplate/samples"
 	"swashplate/spans"
 )
 
 func table(x, y []int, values ...[]int) api.Table { return api.Table{X: x, Y: y, Values: values} }
 
 // example is the rotor R of the document.
-func example() api.Rotor {
-	heavy := []int{1000, 2000}
-	return api.Rotor{
-		Hover:    table(heavy, []int{0, 40}, []int{400, 500}, []int{900, 1100}),
-		Ground:   table([]int{0, 20}, []int{0, 30}, []int{70, 80}, []int{100, 100}),
-		Level:    table([]int{0, 50, 100}, heavy, []int{400, 900}, []int{250, 500}, []int{500, 800}),
-		Power:    table([]int{0, 40}, []int{0, 1000}, []int{1200, 1000}, []int{1000, 800}),
-		Never:    table(heavy, []int{0, 40}, []int{120, 110}, []int{100, 90}),
-		RingLow:  table([]int{0, 30}, heavy, []int{5, 6}, []int{12, 14}),
-		RingHigh: table([]int{0, 30}, heavy, []int{15, 18}, []int{12, 14}),
-		Glide:    table([]int{30, 90}, heavy, []int{20, 24}, []int{16, 20}),
-		Climb:    10, Burn: 200,
-	}
-}
+func example() api.Rotor { return samples.Rotor() }
 
 // air is the air A of the document.
-func air() api.Air {
-	return api.Air{Weight: span(1000, 1500), Temp: span(0, 20), Height: alone(0), Wind: span(0, 30)}
-}
+func air() api.Air { return samples.Air() }
 
 func tables(r *api.Rotor) []*api.Table {
 	return []*api.Table{&r.Hover, &r.Ground, &r.Level, &r.Power, &r.Never, &r.RingLow, &r.RingHigh, &r.Glide}

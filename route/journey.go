@@ -4,6 +4,7 @@ import (
 	"iter"
 
 	"swashplate/api"
+	"swashplate/check"
 	"swashplate/weather"
 	"swashplate/whole"
 )
@@ -19,7 +20,7 @@ type journey struct {
 // plan returns a journey, or ErrFlight; whether places are open is left out.
 func plan(n network, f api.Flight) (*journey, api.Errno) {
 	j := &journey{network: n, Flight: f}
-	right := whole.Within(1, api.MaxRoute, len(f.Route)) && whole.Within(0, n.Places-1, f.Route...) && whole.Within(0, api.MaxTime, f.Depart) &&
+	right := whole.Within(1, api.MaxRoute, len(f.Route)) && whole.Within(0, n.Places-1, f.Route...) && check.Ticks(f.Depart) &&
 		whole.Within(0, api.MaxFuel, f.Fuel, f.Reserve) && whole.Within(1, api.MaxFuel, f.Burn)
 	if !right {
 		return j, api.ErrFlight

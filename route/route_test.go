@@ -10,29 +10,21 @@ import (
 
 	"swashplate/api"
 	"swashplate/engine"
+	"swashplate/samples"
 	"swashplate/weather"
 )
 
 func span(low, high int) api.Span { return api.Span{Low: low, High: high} }
 
-func table(x, y []int, values ...[]int) api.Table { return api.Table{X: x, Y: y, Values: values} }
-
 // example is the met M of the document.
-func example() api.Met {
-	any := api.Sky{Wind: span(0, 10), See: span(5000, 9000), Ceiling: span(1000, 3000)}
-	fog := any
-	fog.See = span(1000, 2000)
-	return api.Met{Places: 3, Any: any, Forecasts: []api.Forecast{{Place: 2, From: 10, To: 30, Sky: fog}, {Place: 0, From: 25, To: 60, Sky: fog}}}
-}
+func example() api.Met { return samples.Flown() }
 
-func minima() api.Minima { return api.Minima{Wind: 20, See: 3000, Ceiling: 500} }
+func minima() api.Minima { return samples.Limits() }
 
-func legs() []api.Leg { return []api.Leg{{A: 0, B: 1, Ticks: 10}, {A: 1, B: 2, Ticks: 8}} }
+func legs() []api.Leg { return samples.Net() }
 
 // flight is the flight F of the document.
-func flight() api.Flight {
-	return api.Flight{Route: []int{0, 1, 2}, Depart: 0, Fuel: 100, Burn: 2, Reserve: 20}
-}
+func flight() api.Flight { return samples.Flight() }
 
 func with(change func(f *api.Flight)) api.Flight {
 	f := flight()
@@ -43,27 +35,7 @@ func with(change func(f *api.Flight)) api.Flight {
 func fuel(n int) api.Flight { return with(func(f *api.Flight) { f.Fuel = n }) }
 
 // lift is a helicopter as in the layers 2 and 3.
-func lift() api.Lift {
-	heavy := []int{1000, 2000}
-	r := api.Rotor{
-		Hover:    table(heavy, []int{0, 40}, []int{400, 500}, []int{900, 1100}),
-		Ground:   table([]int{0, 20}, []int{0, 30}, []int{70, 80}, []int{100, 100}),
-		Level:    table([]int{0, 50, 100}, heavy, []int{400, 900}, []int{250, 500}, []int{500, 800}),
-		Power:    table([]int{0, 40}, []int{0, 1000}, []int{1200, 1000}, []int{1000, 800}),
-		Never:    table(heavy, []int{0, 40}, []int{120, 110}, []int{100, 90}),
-		RingLow:  table([]int{0, 30}, heavy, []int{5, 6}, []int{12, 14}),
-		RingHigh: table([]int{0, 30}, heavy, []int{15, 18}, []int{12, 14}),
-		Glide:    table([]int{30, 90}, heavy, []int{20, 24}, []int{16, 20}),
-		Climb:    10, Burn: 200,
-	}
-	return api.Lift{
-		Craft:     api.Craft{Rotor: r, One: 50, Unit: 25, Step: 10, Top: 3, Drop: 2, Touch: 1, Sink: 1},
-		Air:       api.Air{Weight: span(1000, 1500), Temp: span(0, 20), Wind: span(0, 30)},
-		Field:     api.Field{Length: 4, Clear: 3, Safe: 2, Hindrances: []api.Hindrance{{At: 6, Height: 2}}},
-		Departure: []api.Pose{{X: 1, Speed: 1, Height: 2}, {X: 3, Speed: 2, Height: 3}},
-		Empty:     1100,
-	}
-}
+func lift() api.Lift { return samples.Lift() }
 
 func TestP5_1Check(t *testing.T) {
 	if e := Check(example(), legs(), flight()); e != api.OK {

@@ -4,6 +4,7 @@ import (
 	"slices"
 
 	"swashplate/api"
+	"swashplate/check"
 	"swashplate/spans"
 	"swashplate/whole"
 )
@@ -32,17 +33,14 @@ func checkWinch(h api.Hoist, winds api.Span) api.Errno {
 	if e := CheckHoist(h); e != api.OK {
 		return e
 	}
-	if !valid(winds) {
+	if !check.Spans(winds) {
 		return api.ErrSpan
 	}
 	return api.OK
 }
 
 // blows reports whether winds lie on the table of the hoist.
-func (w *winch) blows() bool {
-	y := w.Limits.Y
-	return whole.Within(y[0], y[len(y)-1], w.winds.Low, w.winds.High)
-}
+func (w *winch) blows() bool { return check.OnAxis(w.Limits.Y, w.winds) }
 
 // carries reports whether the hoist carries a weight at all lengths of a span; nothing is always carried.
 func (w *winch) carries(lengths api.Span, weight int) bool {

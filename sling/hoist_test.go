@@ -7,13 +7,12 @@ import (
 	"testing"
 
 	"swashplate/api"
+	"swashplate/samples"
 	"swashplate/spans"
 )
 
 // example is the hoist H of the document.
-func example() api.Hoist {
-	return api.Hoist{Cable: 50, Charge: 2, Limits: api.Table{X: []int{0, 50}, Y: []int{0, 20}, Values: [][]int{{300, 200}, {200, 100}}}}
-}
+func example() api.Hoist { return samples.Hoist() }
 
 func haul(kind, n int) api.Haul { return api.Haul{Kind: kind, N: n} }
 

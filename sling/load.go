@@ -2,6 +2,7 @@ package sling
 
 import (
 	"swashplate/api"
+	"swashplate/check"
 	"swashplate/spans"
 	"swashplate/whole"
 )
@@ -39,16 +40,6 @@ func inside(num, den int, limits ...api.Span) bool {
 	return true
 }
 
-// valid reports whether spans are valid.
-func valid(l ...api.Span) bool {
-	for _, s := range l {
-		if spans.Check(api.Box{s}) != api.OK {
-			return false
-		}
-	}
-	return true
-}
-
 // sets are a sling, and the spans of all that decides where the load is behind some ticks: displacement and speed at the start, and the gust of each tick.
 type sets struct {
 	api.Sling
@@ -60,7 +51,7 @@ func allow(s api.Sling, b api.Box, gusts api.Span, n int, limits ...api.Span) (s
 	if e := Check(s); e != api.OK {
 		return sets{}, e
 	}
-	if spans.Check(b) != api.OK || !valid(gusts) || !valid(limits...) {
+	if spans.Check(b) != api.OK || !check.Spans(gusts) || !check.Spans(limits...) {
 		return sets{}, api.ErrSpan
 	}
 	right := len(b) == 2 && whole.Within(-api.MaxGust, api.MaxGust, gusts.Low, gusts.High) && whole.Within(0, api.MaxSwing, n)

@@ -8,11 +8,10 @@ import (
 	"testing"
 
 	"swashplate/api"
+	"swashplate/samples"
 )
 
-func hill() api.Table {
-	return api.Table{X: []int{0, 10, 20}, Y: []int{0, 5}, Values: [][]int{{0, 10}, {20, 30}, {10, 50}}}
-}
+func hill() api.Table { return samples.Table() }
 
 func knots(r *rand.Rand) []int {
 	n := r.Intn(20) - 10

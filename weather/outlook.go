@@ -5,6 +5,7 @@ import (
 	"slices"
 
 	"swashplate/api"
+	"swashplate/check"
 	"swashplate/spans"
 	"swashplate/whole"
 )
@@ -19,12 +20,12 @@ func Check(m api.Met) api.Errno {
 		return api.ErrMet
 	}
 	for _, f := range m.Forecasts {
-		if !isPlace(m, f.Place) || !whole.Within(0, api.MaxTime, f.From, f.To, f.Issued) || f.From >= f.To || !validSky(f.Sky) {
+		if !isPlace(m, f.Place) || !check.Period(f.From, f.To) || !check.Ticks(f.Issued) || !validSky(f.Sky) {
 			return api.ErrMet
 		}
 	}
 	for _, s := range m.Sights {
-		if !isPlace(m, s.Place) || !whole.Within(0, api.MaxTime, s.At) || !validWeather(s.Now) {
+		if !isPlace(m, s.Place) || !check.Ticks(s.At) || !validWeather(s.Now) {
 			return api.ErrMet
 		}
 	}
@@ -34,12 +35,7 @@ func Check(m api.Met) api.Errno {
 func isPlace(m api.Met, place int) bool { return whole.Within(0, m.Places-1, place) }
 
 func validSky(s api.Sky) bool {
-	for _, numbers := range [3]api.Span{s.Wind, s.See, s.Ceiling} {
-		if spans.Check(api.Box{numbers}) != api.OK {
-			return false
-		}
-	}
-	return whole.Within(0, api.MaxWind, s.Wind.Low, s.Wind.High) && whole.Within(0, api.MaxSee, s.See.Low, s.See.High, s.Ceiling.Low, s.Ceiling.High)
+	return check.Inside(0, api.MaxWind, s.Wind) && check.Inside(0, api.MaxSee, s.See, s.Ceiling)
 }
 
 func validWeather(w api.Weather) bool {

@@ -7,6 +7,7 @@ import (
 	"testing"
 
 	"swashplate/api"
+	"swashplate/samples"
 )
 
 func sky(wind, see, ceiling api.Span, wild bool) api.Sky {
@@ -14,18 +15,9 @@ func sky(wind, see, ceiling api.Span, wild bool) api.Sky {
 }
 
 // example is the met of the document.
-func example() api.Met {
-	return api.Met{
-		Places: 2, Any: sky(span(0, 60), span(0, 10000), span(0, 3000), true), Wind: 5, See: 1000, Ceiling: 200,
-		Forecasts: []api.Forecast{
-			{Place: 0, From: 0, To: 20, Issued: 0, Sky: sky(span(10, 30), span(4000, 8000), span(500, 2000), false)},
-			{Place: 0, From: 10, To: 20, Issued: 5, Sky: sky(span(25, 40), span(1000, 3000), span(300, 900), false)},
-		},
-		Sights: []api.Sight{{Place: 1, At: 4, Now: api.Weather{Wind: 20, See: 6000, Ceiling: 1500}}},
-	}
-}
+func example() api.Met { return samples.Met() }
 
-func minima() api.Minima { return api.Minima{Wind: 35, See: 3000, Ceiling: 400} }
+func minima() api.Minima { return samples.Minima() }
 
 func TestP4_1Check(t *testing.T) {
 	great := example()
