@@ -266,3 +266,28 @@ func TestP10_11And16Lifts(t *testing.T) {
 		t.Errorf("Lifts without fuel = %d, %d", n, e)
 	}
 }
+
+func TestTheGreatestCabin(t *testing.T) {
+	c := api.Cabin{Empty: 100000, Arm: 1000, FuelArm: 1000, Low: -1000, High: 1000, Seats: slices.Repeat([]api.Seat{{Arm: 1000}}, 8)}
+	l := slices.Repeat([]api.Guest{{Weight: 500, Dive: 2000}}, 8)
+	if s, e := Loaded(c, l, span(99999, 100000)); s != span(203999, 204000) || e != api.OK {
+		t.Errorf("Loaded = %v, %d", s, e)
+	}
+	seating := []int{7, 6, 5, 4, 3, 2, 1, 0}
+	if s, e := Center(c, l, seating, span(0, 100000)); s != span(1000, 1000) || e != api.OK {
+		t.Errorf("Center = %v, %d", s, e)
+	}
+	for i := range c.Seats {
+		c.Seats[i].Arm = -1000
+	}
+	c.Arm, c.FuelArm = -1000, -1000
+	if s, e := Center(c, l, seating, span(0, 100000)); s != span(-1000, -1000) || e != api.OK {
+		t.Errorf("Center = %v, %d", s, e)
+	}
+	if s, e := Loaded(api.Cabin{Empty: 1}, nil, span(0, 0)); s != span(1, 1) || e != api.OK {
+		t.Errorf("Loaded of the least = %v, %d", s, e)
+	}
+	if _, e := Loaded(api.Cabin{Empty: 1, Seats: make([]api.Seat, 9)}, nil, span(0, 0)); e != api.ErrCabin {
+		t.Errorf("Loaded with nine seats: %d", e)
+	}
+}

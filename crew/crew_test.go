@@ -41,6 +41,14 @@ func TestP10_1Check(t *testing.T) {
 			t.Errorf("%d: Check = %d, %d", i, at, e)
 		}
 	}
+	if at, e := Check(example(), []api.Duty{duty(0, 5, 8), duty(1, 4, 8)}); at != 1 || e != api.ErrDuty {
+		t.Errorf("Check of two duties that are not in order = %d, %d", at, e)
+	}
+	crowd := example()
+	crowd.People = make([]api.Person, 13)
+	if at, e := Check(crowd, nil); at != 0 || e != api.ErrRoster {
+		t.Errorf("Check of 13 people = %d, %d", at, e)
+	}
 	for i, c := range []struct {
 		more []api.Duty
 		at   int

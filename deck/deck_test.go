@@ -83,6 +83,13 @@ func TestP6_2Limit(t *testing.T) {
 			t.Errorf("Limit(%v) = %d, %d", c.wind, n, e)
 		}
 	}
+	narrow := ship()
+	narrow.Sectors = []api.Sector{{From: 90, To: 90, Wind: 0}}
+	for _, c := range [][2]int{{89, 40}, {90, 0}, {91, 40}, {450, 0}} {
+		if n, e := Limit(narrow, span(c[0], c[0])); n != c[1] || e != api.OK {
+			t.Errorf("Limit beside a narrow sector at %d = %d, %d", c[0], n, e)
+		}
+	}
 	strong := ship()
 	strong.Wind = 10
 	if n, e := Limit(strong, span(0, 719)); n != 10 || e != api.OK {
@@ -133,6 +140,9 @@ func TestP6_3Quiet(t *testing.T) {
 func TestP6_4Manned(t *testing.T) {
 	if l, e := Manned(ship(), 0, 20); !slices.Equal(l, []api.Span{span(4, 11)}) || e != api.OK {
 		t.Errorf("Manned = %v, %d", l, e)
+	}
+	if l, e := Manned(ship(), 11, 20); !slices.Equal(l, []api.Span{span(11, 11)}) || e != api.OK {
+		t.Errorf("Manned in a tick = %v, %d", l, e)
 	}
 	small := ship()
 	small.Fire = 2
@@ -206,6 +216,15 @@ func TestP6_7Book(t *testing.T) {
 	clear := api.Met{Places: 1, Any: sky(span(0, 9), span(9000, 9000), span(9000, 9000), false)}
 	if l, e := Book(always, clear, api.Motion{}, []api.Booking{book(1901, 100), book(2000, 1), book(1900, 2), book(1900, 1)}); !slices.Equal(l, []int{1901, -1, -1, 1900}) || e != api.OK {
 		t.Errorf("Book in the last ticks = %v, %d", l, e)
+	}
+	if l, e := Book(always, clear, api.Motion{}, []api.Booking{book(0, 3), book(0, 2), book(1, 1)}); !slices.Equal(l, []int{0, 3, 5}) || e != api.OK {
+		t.Errorf("Book in the first ticks = %v, %d", l, e)
+	}
+	great := book(0, 1)
+	great.Approach.Size, great.Approach.Weight = 1000000, 1000000
+	always.Size, always.Load = 1000000, 1000000
+	if l, e := Book(always, clear, api.Motion{}, []api.Booking{great}); !slices.Equal(l, []int{0}) || e != api.OK {
+		t.Errorf("Book of the greatest helicopter = %v, %d", l, e)
 	}
 	for i, c := range []struct {
 		l []api.Booking

@@ -662,3 +662,32 @@ func TestStrongestCraft(t *testing.T) {
 		t.Errorf("Heaviest = %d, %d", w, e)
 	}
 }
+
+func TestTheEndsOfTheWorld(t *testing.T) {
+	c := craft()
+	c.One = 0
+	f := field()
+	f.Hindrances[0].At = 40
+	if e := Check(c, f); e != api.OK {
+		t.Errorf("Check = %d", e)
+	}
+	if l, e := Steps(craft(), air(), field(), pose(39, 1, 2), true); len(l) == 0 || l[len(l)-1].X != 40 || e != api.OK {
+		t.Errorf("Steps to the last place = %v, %d", l, e)
+	}
+	far := api.Field{Length: 40, Clear: 12, Safe: 6}
+	if l, e := Approach(craft(), air(), far, pose(40, 0, 1)); !slices.Equal(l, []api.Pose{pose(40, 0, 0)}) || e != api.OK {
+		t.Errorf("Approach at the last place = %v, %d", l, e)
+	}
+	near := api.Field{Clear: 1, Safe: 0}
+	if l, e := Approach(craft(), air(), near, pose(-40, 1, 12)); len(l) == 0 || l[len(l)-1] != pose(0, l[len(l)-1].Speed, 0) || e != api.OK {
+		t.Errorf("Approach from the first place = %v, %d", l, e)
+	}
+	// The pose would be covered and away, but no step leads there.
+	strayed := []api.Pose{pose(3, 2, 3)}
+	if n, e := Decision(craft(), air(), field(), strayed); n != 0 || e != api.ErrMove {
+		t.Errorf("Decision of what is no step = %d, %d", n, e)
+	}
+	if n, e := Heaviest(craft(), air(), field(), strayed); n != 0 || e != api.ErrNone {
+		t.Errorf("Heaviest of what is no step = %d, %d", n, e)
+	}
+}

@@ -30,6 +30,16 @@ func TestP8_5Changed(t *testing.T) {
 	if l, e := Changed([][]int{{0, 0}}, [][]int{{0, 1}}, 10000); !slices.Equal(l, [][2]int{{0, 1}}) || e != api.OK {
 		t.Errorf("Changed from 0 = %v, %d", l, e)
 	}
+	great := slices.Repeat([][]int{slices.Repeat([]int{1000000}, 12)}, 8)
+	if l, e := Changed(great, great, 0); l != nil || e != api.OK {
+		t.Errorf("Changed of the greatest = %v, %d", l, e)
+	}
+	if l, e := Changed([][]int{{7}}, [][]int{{9}}, 20); !slices.Equal(l, [][2]int{{0, 0}}) || e != api.OK {
+		t.Errorf("Changed of the least = %v, %d", l, e)
+	}
+	if l, e := Proof(1, 12, [][2]int{{0, 11}}); !slices.Equal(l, [][2]int{{0, 11}}) || e != api.OK {
+		t.Errorf("Proof of the last gear = %v, %d", l, e)
+	}
 	wide, tall := [][]int{make([]int, 13)}, slices.Repeat([][]int{{1}}, 9)
 	for i, c := range [][2][][]int{{nil, nil}, {{{}}, {{}}}, {wide, wide}, {tall, tall}, {{{1}}, {{1, 2}}}, {{{1}}, {{1}, {2}}}, {{{1, 2}, {1}}, {{1, 2}, {1}}}, {{{1, 2}, {1, 2}}, {{1, 2}, {1}}}, {{{-1}}, {{1}}}, {{{1}}, {{1000001}}}} {
 		if l, e := Changed(c[0], c[1], -1); l != nil || e != api.ErrLevels {

@@ -45,7 +45,7 @@ func TestP8_3Alarm(t *testing.T) {
 		e                     api.Errno
 	}{
 		{up, 3, 1, 24, 3, api.OK}, {up, 5, 1, 2, 4, api.OK}, {up, 1, 1, 1, 0, api.OK}, {up, 6, 1, 1, -1, api.OK}, {up, 1, 1, 121, -1, api.OK}, {up, 1, 1, 120, 4, api.OK}, {up, 0, 0, 1, -1, api.OK},
-		{nil, 0, 1, 1, -1, api.OK},
+		{nil, 0, 1, 1, -1, api.OK}, {up, 1, 1000000, 1000000, 0, api.OK}, {up, 1000000, 1, 1, -1, api.OK}, {up, -1000000, 0, 1000000, -1, api.OK},
 		{long, 8, 1, 40320, 63, api.OK}, {long, 1, 1, 1, 0, api.OK}, {long, 9, 1, 1000, -1, api.OK},
 		{make([]int, 65), 2000000, -1, 0, 0, api.ErrMany},
 		{[]int{1, 1000001}, 0, 1, 1, 0, api.ErrArg}, {up, 1000001, 1, 1, 0, api.ErrArg}, {up, -1000001, 1, 1, 0, api.ErrArg},
@@ -76,6 +76,9 @@ func TestP8_4SlopeAndForecast(t *testing.T) {
 	}
 	if num, den, e := Forecast([]int{0, 1}, []int{-1000000, 1000000}, 1000000); num != -1000000+2000000*1000000 || den != 1 || e != api.OK {
 		t.Errorf("Forecast of the greatest = %d, %d, %d", num, den, e)
+	}
+	if num, den, e := Slope([]int{0, 1000000}, []int{0, 1}); num != 1 || den != 1000000 || e != api.OK {
+		t.Errorf("Slope of a long time = %d, %d, %d", num, den, e)
 	}
 	for i, c := range []struct {
 		hours, values []int

@@ -526,3 +526,42 @@ func TestP9_8ASwapKeepsEverything(t *testing.T) {
 		}
 	}
 }
+
+// A machine without places is complete: only the numbers of a flight decide.
+func TestFlightsOfAMachineWithoutPlaces(t *testing.T) {
+	r := api.Register{Kinds: []api.Kind{{Hours: 1, Cycles: 1}}, Machines: 1}
+	for _, c := range []struct {
+		w api.Work
+		e api.Errno
+	}{{work(api.Flown, 0, 100, 100), api.OK}, {work(api.Flown, 0, 101, 0), api.ErrWork}, {work(api.Flown, 0, 0, 101), api.ErrWork}, {work(api.Flown, 1, 1, 1), api.ErrWork}, {work(api.Flown, 2, 1, 1), api.ErrWork}} {
+		if at, e := Check(r, []api.Work{c.w}); at != 0 || e != c.e {
+			t.Errorf("Check of %v = %d, %d", c.w, at, e)
+		}
+	}
+	if n, e := Longest(r, nil, 0, 100); n != 100 || e != api.OK {
+		t.Errorf("Longest = %d, %d", n, e)
+	}
+	for i, x := range []api.Register{
+		{Kinds: slices.Repeat([]api.Kind{{Hours: 1, Cycles: 1}}, 7)}, {Kinds: r.Kinds, Parts: make([]api.Part, 25)}, {Kinds: r.Kinds, Orders: make([]api.Order, 7)},
+	} {
+		if _, e := Check(x, nil); e != api.ErrRegister {
+			t.Errorf("%d: Check = %d", i, e)
+		}
+	}
+}
+
+// The last order of all that there may be holds like the first one, and cells may be of the last sensor.
+func TestTheLastOrderAndSensor(t *testing.T) {
+	r := example()
+	r.Orders = slices.Repeat(r.Orders, 6)
+	l := works(work(api.Issued, 5), work(api.Checked, 2, 5), work(api.Flown, 0, 5, 0))
+	if due, e := Due(r, l, 5); !slices.Equal(due, []int{3}) || e != api.OK {
+		t.Errorf("Due = %v, %d", due, e)
+	}
+	if hours, _, e := Left(r, l, 3); hours != 0 || e != api.OK {
+		t.Errorf("Left = %d, %d", hours, e)
+	}
+	if s, e := Suspects(r, works(), 0, [][2]int{{1, 1}}, [][2]int{{0, 0}, {7, 0}}); !slices.Equal(s, []int{3}) || e != api.OK {
+		t.Errorf("Suspects = %v, %d", s, e)
+	}
+}

@@ -22,7 +22,7 @@ func TestP9_3GapsAndDoubles(t *testing.T) {
 		{10, nil, []api.Span{span(0, 9)}, nil},
 		{0, nil, nil, nil},
 		{10, []api.Span{span(3, 4), span(6, 6), span(4, 6), span(3, 6)}, []api.Span{span(0, 2), span(7, 9)}, []api.Span{span(3, 6)}},
-		{100000, []api.Span{span(0, 99999)}, nil, nil},
+		{100000, []api.Span{span(0, 99999)}, nil, nil}, {2, slices.Repeat([]api.Span{span(0, 0)}, 20), []api.Span{span(1, 1)}, []api.Span{span(0, 0)}},
 	} {
 		if l, e := Gaps(c.hours, c.pages); !slices.Equal(l, c.gaps) || e != api.OK {
 			t.Errorf("Gaps of %d in %v = %v, %d", c.hours, c.pages, l, e)
@@ -96,6 +96,7 @@ func TestP9_4CyclesAndDamage(t *testing.T) {
 	}{
 		{[]int{0, 5, 2, 4, 1, 6, 0}, [][2]int{{2, 2}, {4, 2}, {6, 1}, {6, 1}}},
 		{nil, nil}, {[]int{3}, nil}, {[]int{3, 3, 3}, nil}, {[]int{3, 3, 5}, [][2]int{{2, 1}}}, {[]int{0, 1, 2, 3, 3, 2}, [][2]int{{3, 1}, {1, 1}}},
+		{[]int{0, 5, 2, 4, 2}, [][2]int{{2, 2}, {5, 1}, {3, 1}}}, {[]int{3, 0, 3, 0}, [][2]int{{3, 1}, {3, 1}, {3, 1}}}, {[]int{0, 4, 1, 4, 0}, [][2]int{{3, 2}, {4, 1}, {4, 1}}},
 		{[]int{0, 2, -2}, [][2]int{{2, 1}, {4, 1}}}, {[]int{0, 2, 0}, [][2]int{{2, 1}, {2, 1}}},
 		{[]int{-2, 1, -3, 5, -1, 3, -4, 4, -2}, [][2]int{{3, 1}, {4, 1}, {4, 2}, {8, 1}, {9, 1}, {8, 1}, {6, 1}}},
 		{[]int{-1000000, 1000000}, [][2]int{{2000000, 1}}},
@@ -109,7 +110,7 @@ func TestP9_4CyclesAndDamage(t *testing.T) {
 	for _, c := range []struct {
 		steps [][2]int
 		want  int
-	}{{[][2]int{{2, 1}, {5, 10}}, 24}, {nil, 0}, {[][2]int{{7, 100}}, 0}, {[][2]int{{0, 1}}, 6}, {[][2]int{{4, 5}, {6, 0}}, 10}, {eight, 2*3 + 2*5 + 7 + 7}} {
+	}{{[][2]int{{2, 1}, {5, 10}}, 24}, {nil, 0}, {[][2]int{{7, 100}}, 0}, {[][2]int{{1, 1000000}, {1000000, 0}}, 6000000}, {[][2]int{{0, 1}}, 6}, {[][2]int{{4, 5}, {6, 0}}, 10}, {eight, 2*3 + 2*5 + 7 + 7}} {
 		if n, e := Damage(series, c.steps); n != c.want || e != api.OK {
 			t.Errorf("Damage with %v = %d, %d", c.steps, n, e)
 		}

@@ -507,3 +507,42 @@ func TestNothingIsChanged(t *testing.T) {
 		t.Error("Best changes the rotor")
 	}
 }
+
+func TestTheGreatestAndTheLeast(t *testing.T) {
+	for _, n := range []int{0, api.MaxPower} {
+		r := example()
+		for _, row := range r.Level.Values {
+			row[0], row[1] = n, n
+		}
+		r.Ground.Values[0][0], r.Power.Values[0][0], r.RingLow.Values[0][0], r.RingHigh.Values[0][0] = 0, 0, 0, 0
+		if e := Check(r); e != api.OK {
+			t.Fatalf("Check = %d", e)
+		}
+		r = example()
+		for _, row := range r.Level.Values {
+			row[0], row[1] = n, n
+		}
+		if speed, rate, e := Best(r, air()); speed != 0 || rate != (1100-n)/10 || e != api.OK {
+			t.Errorf("Best with %d everywhere = %d, %d, %d", n, speed, rate, e)
+		}
+	}
+	long := []api.Drop{{Speed: alone(0), Sink: alone(1), Ticks: api.MaxTicks}}
+	if s, at, e := Descent(example(), air(), long); s != alone(1000) || at != 0 || e != api.OK {
+		t.Errorf("Descent of many ticks = %v, %d, %d", s, at, e)
+	}
+	a := air()
+	a.Weight = alone(1000)
+	one := example()
+	one.Level.X = []int{100, 150, 200}
+	if n, e := Fast(one, a); n != 115 || e != api.OK {
+		t.Errorf("Fast near the first knot = %d, %d", n, e)
+	}
+	one.Never.Values = [][]int{{100, 100}, {100, 100}}
+	if n, e := Fast(one, a); n != 100 || e != api.OK {
+		t.Errorf("Fast at the first knot = %d, %d", n, e)
+	}
+	one.Never.Values = [][]int{{99, 99}, {99, 99}}
+	if n, e := Fast(one, a); n != 0 || e != api.ErrNone {
+		t.Errorf("Fast below the first knot = %d, %d", n, e)
+	}
+}

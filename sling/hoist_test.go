@@ -261,3 +261,26 @@ func TestP7_11EachLengthAndWind(t *testing.T) {
 		}
 	}
 }
+
+func TestTheLeastAndTheGreatestSteps(t *testing.T) {
+	out, touch := haul(api.Out, 1), haul(api.Touch, 0)
+	if hang, at, e := Haul(example(), span(0, 20), []api.Haul{out, touch, haul(api.Hook, 1), haul(api.Unhook, 0)}); hang != (api.Hang{Length: 1, Since: 2, Cycles: 1}) || at != 0 || e != api.OK {
+		t.Errorf("Haul of the least = %+v, %d, %d", hang, at, e)
+	}
+	strong := example()
+	strong.Limits.Values = [][]int{{1000000, 1000000}, {1000000, 1000000}}
+	if hang, at, e := Haul(strong, span(0, 20), []api.Haul{out, touch, haul(api.Hook, 100000)}); hang.Weight != 100000 || at != 0 || e != api.OK {
+		t.Errorf("Haul of the greatest = %+v, %d, %d", hang, at, e)
+	}
+	if _, at, e := Haul(strong, span(0, 20), []api.Haul{out, touch, haul(api.Hook, 100001)}); at != 2 || e != api.ErrHaul {
+		t.Errorf("Haul of more = %d, %d", at, e)
+	}
+	weak := example()
+	weak.Limits.Values = [][]int{{0, 0}, {0, 0}}
+	if hang, at, e := Haul(weak, span(0, 20), []api.Haul{haul(api.Out, 9), haul(api.In, 4)}); hang != (api.Hang{Length: 5, Since: 2}) || at != 0 || e != api.OK {
+		t.Errorf("Haul of an empty hook on what carries nothing = %+v, %d, %d", hang, at, e)
+	}
+	if _, at, e := Haul(weak, span(0, 20), []api.Haul{out, touch, haul(api.Hook, 1)}); at != 2 || e != api.ErrHaul {
+		t.Errorf("Haul on what carries nothing = %d, %d", at, e)
+	}
+}

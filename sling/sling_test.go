@@ -414,3 +414,16 @@ func TestCalmIsTheFirst(t *testing.T) {
 		}
 	}
 }
+
+func TestTheGreatestSets(t *testing.T) {
+	all := span(-1000, 1000)
+	if low, high, e := Reach(stiff(), api.Box{all, all}, span(-100, 100), 1); low != [2]int{-1100, 1} || high != [2]int{1100, 1} || e != api.OK {
+		t.Errorf("Reach of all = %v, %v, %d", low, high, e)
+	}
+	if l, e := Swing(stiff(), [2]int{-1000, 1000}, []int{-100, 100}); !slices.Equal(l, [][2]int{{900, 1}, {2000, 1}}) || e != api.OK {
+		t.Errorf("Swing = %v, %d", l, e)
+	}
+	if start, row, e := Witness(api.Sling{Num: 1, Den: 1}, api.Box{span(-5, 5), span(-5, 5)}, span(-1, 1), 1, true); start != [2]int{-5, 5} || !slices.Equal(row, []int{1}) || e != api.OK {
+		t.Errorf("Witness where the displacement does not matter = %v, %v, %d", start, row, e)
+	}
+}

@@ -303,3 +303,26 @@ func TestNoOverflow(t *testing.T) {
 		t.Errorf("Worst = %d, %d, %d", x, y, e)
 	}
 }
+
+// flat has the same value everywhere.
+func flat(n int) api.Table {
+	return api.Table{X: []int{0, 3}, Y: []int{0, 3}, Values: [][]int{{n, n}, {n, n}}}
+}
+
+func TestFlatTables(t *testing.T) {
+	side := span(1, 2)
+	for _, n := range []int{-most, 0, most} {
+		if s, e := Bound(flat(n), side, side); s != span(n, n) || e != api.OK {
+			t.Errorf("Bound of %d = %v, %d", n, s, e)
+		}
+		if x, y, e := Worst(flat(n), side, side); x != 1 || y != 1 || e != api.OK {
+			t.Errorf("Worst of %d = %d, %d, %d", n, x, y, e)
+		}
+		if x, e := Greatest(flat(n), side, n); x != 3 || e != api.OK {
+			t.Errorf("Greatest of %d = %d, %d", n, x, e)
+		}
+		if x, e := Greatest(flat(n), side, n-1); x != 0 || e != api.ErrNone {
+			t.Errorf("Greatest of %d with less = %d, %d", n, x, e)
+		}
+	}
+}

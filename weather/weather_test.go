@@ -284,6 +284,7 @@ func TestP4_9Real(t *testing.T) {
 		{0, 5, []api.Weather{{Wind: 10, See: 4000, Ceiling: 500}, {Wind: 10, See: 5001, Ceiling: 500}}, 6, false, api.OK},
 		{0, 5, []api.Weather{{Wind: 10, See: 4000, Ceiling: 500}, {Wind: 10, See: 5000, Ceiling: 700}}, 0, true, api.OK},
 		{0, 5, []api.Weather{{Wind: 10, See: 4000, Ceiling: 701}, {Wind: 10, See: 4000, Ceiling: 500}}, 6, false, api.OK},
+		{0, 9, []api.Weather{{Wind: 25, See: 4000, Ceiling: 600}, {Wind: 25, See: 3000, Ceiling: 600}, {Wind: 25, See: 3001, Ceiling: 600}}, 11, false, api.OK},
 		{0, 5, []api.Weather{{Wind: 10, See: 3999, Ceiling: 701}}, 5, false, api.OK},
 		{0, 5, []api.Weather{{Wind: 10, See: 4000, Ceiling: 499}}, 5, false, api.OK},
 	} {
@@ -534,5 +535,21 @@ func TestNothingIsChanged(t *testing.T) {
 	}
 	if m.Forecasts[0].Issued != 5 || m.Sights[0].At != 4 {
 		t.Error("May sorts the met itself")
+	}
+}
+
+func TestTheGreatestNumbers(t *testing.T) {
+	m := api.Met{Places: 1, Any: sky(span(0, 9), span(0, 9), span(0, 9), false), Wind: 10, See: 1000, Ceiling: 1000}
+	m.Sights = []api.Sight{{At: 0, Now: api.Weather{Wind: 300, See: 20000, Ceiling: 20000}}}
+	if s, e := May(m, 0, 1); s != sky(span(290, 300), span(19000, 20000), span(19000, 20000), false) || e != api.OK {
+		t.Errorf("May behind the greatest weather = %v, %d", s, e)
+	}
+	m.Any = sky(span(50, 60), span(5000, 6000), span(5000, 6000), false)
+	m.Sights[0].Now = api.Weather{}
+	if s, e := May(m, 0, 1); s != sky(span(0, 10), span(0, 1000), span(0, 1000), false) || e != api.OK {
+		t.Errorf("May behind no weather at all = %v, %d", s, e)
+	}
+	if is, e := Open(m, api.Minima{Wind: 300, See: 20000, Ceiling: 20000}, 0, 0); is || e != api.OK {
+		t.Errorf("Open with the greatest minima = %v, %d", is, e)
 	}
 }

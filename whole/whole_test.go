@@ -44,6 +44,9 @@ func TestFirstAndLast(t *testing.T) {
 			t.Errorf("Last up to %d = %d, %v", n, k, is)
 		}
 	}
+	if n, is := Last(7, 7, func(int) bool { return true }); n != 7 || !is {
+		t.Error("Last of one")
+	}
 	if _, is := First(1, 0, func(int) bool { return true }); is {
 		t.Error("First of nothing")
 	}
