@@ -42,6 +42,7 @@ func best() []api.Sortie { return samples.Plan() }
 
 func TestP11_1Check(t *testing.T) {
 	for i, f := range []api.Fleet{
+		with(func(f *api.Fleet) { f.Until, f.Jobs = 1, nil }), with(func(f *api.Fleet) { f.Jobs[0].Depart = 0 }), with(func(f *api.Fleet) { f.Met.Places, f.Net, f.Jobs, f.Bases = 1, nil, nil, []int{0, 0} }),
 		example(), with(func(f *api.Fleet) { f.Jobs = slices.Repeat(f.Jobs, 2) }), with(func(f *api.Fleet) { f.Turn, f.Hour, f.Cover, f.Until = 0, 1, 2, 2000 }),
 		with(func(f *api.Fleet) { f.Turn, f.Hour, f.Cover = 100, 100, 0 }), with(func(f *api.Fleet) { f.Register.Machines, f.Bases, f.Crafts, f.Cover = 0, nil, nil, 0 }),
 		with(func(f *api.Fleet) { f.Crafts[1] = 7 }), with(func(f *api.Fleet) { f.Jobs[1].Value = 1000000; f.Jobs[1].Depart = 59 }),
@@ -54,7 +55,7 @@ func TestP11_1Check(t *testing.T) {
 		func(f *api.Fleet) { f.Bases = f.Bases[:1] }, func(f *api.Fleet) { f.Crafts = []int{0, 0, 0} }, func(f *api.Fleet) { f.Bases[1] = 3 }, func(f *api.Fleet) { f.Bases[1] = -1 },
 		func(f *api.Fleet) { f.Crafts[1] = 8 }, func(f *api.Fleet) { f.Crafts[1] = -1 }, func(f *api.Fleet) { f.Turn = -1 }, func(f *api.Fleet) { f.Turn = 101 }, func(f *api.Fleet) { f.Hour = 0 }, func(f *api.Fleet) { f.Hour = 101 },
 		func(f *api.Fleet) { f.Cover = -1 }, func(f *api.Fleet) { f.Cover = 3 }, func(f *api.Fleet) { f.Until = 0 }, func(f *api.Fleet) { f.Until = 2001 },
-		func(f *api.Fleet) { f.Jobs = slices.Repeat(f.Jobs, 3) }, func(f *api.Fleet) { f.Jobs[2].From = 2 }, func(f *api.Fleet) { f.Jobs[2].From = -1 }, func(f *api.Fleet) { f.Jobs[2].To = 3 },
+		func(f *api.Fleet) { f.Jobs = slices.Repeat(f.Jobs, 3) }, func(f *api.Fleet) { f.Jobs = slices.Repeat(f.Jobs[:1], 7) }, func(f *api.Fleet) { f.Jobs[2].From = 2 }, func(f *api.Fleet) { f.Jobs[2].From = -1 }, func(f *api.Fleet) { f.Jobs[2].To = 3 },
 		func(f *api.Fleet) { f.Jobs[2].Depart = -1 }, func(f *api.Fleet) { f.Jobs[2].Depart = 60 }, func(f *api.Fleet) { f.Jobs[2].Value = -1 }, func(f *api.Fleet) { f.Jobs[2].Value = 1000001 },
 	} {
 		if e := Check(with(change)); e != api.ErrFleet {
@@ -219,6 +220,10 @@ func TestP11_2Best(t *testing.T) {
 	}
 	if l, n, e := Best(with(func(f *api.Fleet) { f.Jobs[0].Value, f.Jobs[1].Value = 0, 0 })); !slices.Equal(l, best()[1:]) || n != 7 || e != api.OK {
 		t.Errorf("Best without a job that is worth nothing = %v, %d, %d", l, n, e)
+	}
+	at0 := with(func(f *api.Fleet) { f.Jobs[0].Depart = 0 })
+	if l, n, e := Best(at0); !slices.Equal(l, []api.Sortie{sortie(0, 0, 0, 1), sortie(1, 1, 0, 1), sortie(2, 0, 0, 1)}) || n != 16 || e != api.OK {
+		t.Errorf("Best with a job at 0 = %v, %d, %d", l, n, e)
 	}
 	for i, f := range []api.Fleet{
 		with(func(f *api.Fleet) { f.Jobs = append(f.Jobs, f.Jobs[:2]...) }),
@@ -665,5 +670,119 @@ func TestBestOfTheGreatestFleet(t *testing.T) {
 	f.Jobs[3].Water = true
 	if l, n, e := Best(f); len(l) != 3 || n != 6 || e != api.OK {
 		t.Errorf("Best without the last job = %v, %d, %d", l, n, e)
+	}
+}
+
+// worn is the fleet with one machine, whose part can still fly so many hours and cycles.
+func worn(hours, cycles int) api.Fleet {
+	return with(func(f *api.Fleet) {
+		f.Register = api.Register{Kinds: []api.Kind{{Hours: 50, Cycles: 50, Places: 1}}, Parts: []api.Part{{Hours: 50 - hours, Cycles: 50 - cycles, Known: true}}, Machines: 1}
+		f.Works = []api.Work{{Kind: api.Fitted}}
+		f.Bases, f.Crafts, f.Cover, f.Hour = []int{0}, []int{0}, 0, 2
+	})
+}
+
+func TestWornMachines(t *testing.T) {
+	for _, c := range []struct {
+		hours, cycles, value, bound int
+		e                           api.Errno
+	}{{14, 0, 12, 12, api.OK}, {13, 1, 7, 7, api.OK}, {9, 9, 7, 7, api.OK}, {8, 9, 5, 5, api.OK}, {5, 0, 5, 5, api.OK}, {4, 9, 0, 0, api.OK}, {0, 0, 0, 0, api.OK}, {-1, 9, 0, 0, api.ErrNone}, {9, -1, 0, 0, api.ErrNone}} {
+		f := worn(c.hours, c.cycles)
+		f.Jobs[1].Value = 0
+		if _, _, _, e := Block(f, 0, 0); e != c.e {
+			t.Errorf("Block with %d hours and %d cycles: %d", c.hours, c.cycles, e)
+		}
+		if l, n, e := Best(f); n != c.value || e != api.OK {
+			t.Errorf("Best with %d hours and %d cycles = %v, %d, %d", c.hours, c.cycles, l, n, e)
+		}
+		if n, e := Bound(f, []int{0, 0, 0}); n != c.bound || e != api.OK {
+			t.Errorf("Bound with %d hours and %d cycles = %d, %d", c.hours, c.cycles, n, e)
+		}
+	}
+}
+
+// The job 0 of the machine 0 is home at 22: another one may leave Turn ticks later, not before.
+func TestTurn(t *testing.T) {
+	for _, depart := range []int{23, 24, 25} {
+		f := worn(50, 50)
+		f.Jobs = []api.Job{{From: 0, To: 1, Depart: depart, Value: 1}, f.Jobs[0]}
+		want := 5
+		if depart >= 24 {
+			want = 6
+		}
+		if l, n, e := Best(f); n != want || e != api.OK {
+			t.Errorf("Best with a job at %d = %v, %d, %d", depart, l, n, e)
+		}
+		if n, e := Bound(f, []int{0, 0}); n != want || e != api.OK {
+			t.Errorf("Bound with a job at %d = %d, %d", depart, n, e)
+		}
+		slices.Reverse(f.Jobs)
+		if n, e := Bound(f, []int{0, 0}); n != want || e != api.OK {
+			t.Errorf("Bound with a job at %d behind the other = %d, %d", depart, n, e)
+		}
+	}
+}
+
+// Sorties that leave in the same tick stand in the order of their jobs.
+func TestSortiesInTheSameTick(t *testing.T) {
+	f := with(func(f *api.Fleet) { f.Cover, f.Bases, f.Jobs[1] = 0, []int{0, 0}, f.Jobs[0] })
+	l := []api.Sortie{sortie(0, 0, 0, 2), sortie(1, 1, 1, 3)}
+	if at, e := CheckPlan(f, l); at != 0 || e != api.OK {
+		t.Errorf("CheckPlan = %d, %d", at, e)
+	}
+	slices.Reverse(l)
+	if at, e := CheckPlan(f, l); at != 1 || e != api.ErrPlan {
+		t.Errorf("CheckPlan of the opposite order = %d, %d", at, e)
+	}
+	if at, e := CheckPlan(f, []api.Sortie{sortie(0, 0, 0, 2), sortie(1, 1, 1, 3), sortie(2, 0, 0, 1)}); at != 0 || e != api.OK {
+		t.Errorf("CheckPlan of three = %d, %d", at, e)
+	}
+	if at, e := CheckPlan(f, []api.Sortie{sortie(2, 0, 0, 1), sortie(0, 0, 0, 2)}); at != 1 || e != api.ErrPlan {
+		t.Errorf("CheckPlan of one that left before = %d, %d", at, e)
+	}
+}
+
+// TestTiredCrews finds the best plans where people need their rest: who flies a job decides who may fly the next ones.
+func TestTiredCrews(t *testing.T) {
+	r := rand.New(rand.NewSource(2))
+	flown := map[int]int{}
+	for range 80 {
+		f := example()
+		f.Bases, f.Cover, f.Until = []int{0, r.Intn(2)}, 0, 90
+		f.Jobs = nil
+		for range 4 {
+			from := r.Intn(2)
+			f.Jobs = append(f.Jobs, api.Job{From: from, To: 1 - from, Depart: 10 + r.Intn(50), Value: 1 + r.Intn(3)})
+		}
+		f.Roster.People = nil
+		for range 3 {
+			f.Roster.People = append(f.Roster.People, api.Person{Ratings: 1, Rank: 3 - r.Intn(4)/2})
+		}
+		f.Roster.Rest, f.Roster.Total, f.Roster.Window, f.Roster.Recent = r.Intn(14), 25+r.Intn(40), 100, 30+r.Intn(30)
+		m := newModel(f)
+		want := m.first(m.plans(nil, 0))
+		l, n, e := Best(f)
+		if !slices.Equal(l, want) || n != m.value(want) || e != api.OK {
+			t.Fatalf("Best of %+v = %v, %d, %d, want %v", f, l, n, e, want)
+		}
+		flown[len(l)]++
+	}
+	if flown[1] < 5 || flown[2] < 5 || flown[3] < 5 {
+		t.Errorf("sorties of the plans: %v", flown)
+	}
+}
+
+// Both machines could fly the job 1, but the machine 0 leaves for it before the crew of the job 0 has had its rest: a lower commander or mate of the job 0 comes before a lower machine of the job 1.
+func TestCrewsBeforeLaterMachines(t *testing.T) {
+	f := with(func(f *api.Fleet) { f.Cover, f.Roster.Rest, f.Jobs = 0, 5, f.Jobs[:2]; f.Jobs[1].Depart = 31 })
+	if l, n, e := Best(f); !slices.Equal(l, []api.Sortie{sortie(0, 0, 0, 1), sortie(1, 1, 0, 1)}) || n != 9 || e != api.OK {
+		t.Errorf("Best = %v, %d, %d", l, n, e)
+	}
+	// Only the people 0 and 3 may fly over water, so they must not fly the job 0.
+	f.Jobs[1].Water = true
+	f.Bases[1] = 0
+	f.Roster.People = []api.Person{{Ratings: 1, Rank: 2, Dive: 100}, {Ratings: 1, Rank: 1}, {Ratings: 1, Rank: 2}, {Ratings: 1, Rank: 1, Dive: 100}}
+	if l, n, e := Best(f); !slices.Equal(l, []api.Sortie{sortie(0, 0, 2, 1), sortie(1, 0, 0, 3)}) || n != 9 || e != api.OK {
+		t.Errorf("Best over water = %v, %d, %d", l, n, e)
 	}
 }

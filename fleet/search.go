@@ -63,10 +63,14 @@ func (p *plan) best(kept []api.Sortie, now int) []api.Sortie {
 	return kept
 }
 
+// flown is with which machine somebody has flown each job, and one more; 0, if they have not. The order of the sorties follows from that.
+type flown [api.MaxJobs]int
+
 // turn is a sortie, the number of sorties before it, and what its commander and its mate have flown in these: nothing else decides whether they may fly it.
 type turn struct {
 	api.Sortie
-	before, commander, mate int
+	before          int
+	commander, mate flown
 }
 
 // crews looks for crews of a plan.
@@ -75,20 +79,20 @@ type crews struct {
 	known map[turn]bool
 }
 
-// flown returns a number that tells what a person has flown.
-func (c *crews) flown(l []api.Sortie, person int) int {
-	n := 0
+// flownBy returns what a person has flown.
+func flownBy(l []api.Sortie, person int) flown {
+	var f flown
 	for _, s := range l {
 		if s.Commander == person || s.Mate == person {
-			n = n*(api.MaxJobs*api.MaxMachines+1) + s.Job*api.MaxMachines + s.Machine + 1
+			f[s.Job] = s.Machine + 1
 		}
 	}
-	return n
+	return f
 }
 
 // may reports whether a sortie has a crew that may fly it.
 func (c *crews) may(before []api.Sortie, s api.Sortie) bool {
-	t := turn{s, len(before), c.flown(before, s.Commander), c.flown(before, s.Mate)}
+	t := turn{s, len(before), flownBy(before, s.Commander), flownBy(before, s.Mate)}
 	is, known := c.known[t]
 	if !known {
 		is = c.crewed(before, s)

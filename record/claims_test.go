@@ -88,7 +88,7 @@ func TestErrorsOfCases(t *testing.T) {
 			t.Errorf("%s: %d", name, e)
 		}
 		for i, change := range []func(c *api.Case){
-			func(c *api.Case) { c.Claims = make([]api.Claim, 17) }, func(c *api.Case) { c.Proofs = append(slices.Repeat(c.Proofs, 4), c.Proofs[0]) },
+			func(c *api.Case) { c.Claims = make([]api.Claim, 17) }, func(c *api.Case) { c.Proofs = append(slices.Repeat(c.Proofs, 4), c.Proofs[0]); c.Claims = nil },
 			func(c *api.Case) { c.Claims[1].Needs = []int{1} }, func(c *api.Case) { c.Claims[0].Needs = []int{0} }, func(c *api.Case) { c.Claims[2].Needs = []int{1, 0} }, func(c *api.Case) { c.Claims[2].Needs = []int{1, 1} }, func(c *api.Case) { c.Claims[2].Needs = []int{-1} },
 			func(c *api.Case) { c.Claims[0].Proofs = []int{3} }, func(c *api.Case) { c.Claims[0].Proofs = []int{-1} }, func(c *api.Case) { c.Claims[0].Proofs = []int{1, 0} }, func(c *api.Case) { c.Claims[0].Proofs = []int{1, 1} },
 			func(c *api.Case) { c.Proofs[1] = span(5, 4) }, func(c *api.Case) { c.Proofs[1] = span(-1, 4) }, func(c *api.Case) { c.Proofs[1] = span(0, 2001) },

@@ -499,3 +499,27 @@ func TestP12_13LivesFromFlights(t *testing.T) {
 		t.Errorf("Used = %v, %d", used, e)
 	}
 }
+
+func TestTheGreatestEvents(t *testing.T) {
+	many := event(100, atLeast(0, -1000000), atMost(0, 1000000), atLeast(2, 0), atMost(2, 1))
+	if l, e := Events(example(), marks(slices.Repeat([]int{1}, 200)...), many); !slices.Equal(l, []api.Span{span(0, 199)}) || e != api.OK {
+		t.Errorf("Events = %v, %d", l, e)
+	}
+	below := example()
+	below.Fields[1].Bit, below.Fields[1].Size, below.Fields[1].Word = 0, 4, 1
+	below.Fields[0].Bit = 4
+	if e := Check(below); e != api.OK {
+		t.Errorf("Check of a field just below another one = %d", e)
+	}
+	crowd := api.Layout{Words: 32, Sync: [4]int{1, 2, 3, 4}}
+	for i := range 17 {
+		crowd.Fields = append(crowd.Fields, api.Bits{Word: i + 1, Size: 1, Den: 1, Every: 1})
+	}
+	if e := Check(crowd); e != api.ErrLayout {
+		t.Errorf("Check of 17 fields = %d", e)
+	}
+	crowd.Fields = crowd.Fields[:16]
+	if e := Check(crowd); e != api.OK {
+		t.Errorf("Check of 16 fields = %d", e)
+	}
+}

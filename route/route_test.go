@@ -711,3 +711,47 @@ func TestLongFlights(t *testing.T) {
 		t.Errorf("Route: %d", e)
 	}
 }
+
+func TestTheFirstAndTheLastTicks(t *testing.T) {
+	fog := example().Any
+	fog.See = span(1000, 2000)
+	m := api.Met{Places: 1, Any: example().Any, Forecasts: []api.Forecast{{From: 0, To: 1, Sky: fog}, {From: 1998, To: 1999, Sky: fog}}}
+	f := api.Flight{Route: []int{0}, Fuel: 9, Burn: 1}
+	for _, c := range []struct {
+		depart int
+		want   bool
+	}{{0, false}, {1, true}, {1997, true}, {1998, false}, {1999, true}, {2000, true}} {
+		f.Depart = c.depart
+		if _, is, e := Safe(m, minima(), nil, f); is != c.want || e != api.OK {
+			t.Errorf("Safe in %d = %v, %d", c.depart, is, e)
+		}
+	}
+	m.Forecasts[1] = api.Forecast{From: 1999, To: 2000, Sky: fog}
+	for _, c := range []struct {
+		depart int
+		want   bool
+	}{{1998, true}, {1999, false}, {2000, true}} {
+		f.Depart = c.depart
+		if _, is, e := Safe(m, minima(), nil, f); is != c.want || e != api.OK {
+			t.Errorf("Safe in %d = %v, %d", c.depart, is, e)
+		}
+	}
+	f.Depart = 1999
+	if n, e := Soonest(m, minima(), nil, f, 2000); n != 2000 || e != api.OK {
+		t.Errorf("Soonest in the last ticks = %d, %d", n, e)
+	}
+	if e := Check(m, slices.Repeat(legs()[:1], 21), f); e != api.ErrNet {
+		t.Errorf("Check of 21 legs = %d", e)
+	}
+	if e := Check(example(), slices.Repeat(legs()[:1], 21), flight()); e != api.ErrNet {
+		t.Errorf("Check of 21 right legs = %d", e)
+	}
+	if e := Check(example(), slices.Repeat(legs(), 10), flight()); e != api.OK {
+		t.Errorf("Check of 20 legs = %d", e)
+	}
+	x := lift()
+	x.Empty = 1000000
+	if n, e := Payload(x, example(), minima(), legs(), flight()); n != 0 || e != api.ErrNone {
+		t.Errorf("Payload of the heaviest = %d, %d", n, e)
+	}
+}
