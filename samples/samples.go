@@ -70,9 +70,9 @@ func Minima() api.Minima { return api.Minima{Wind: 35, See: 3000, Ceiling: 400} 
 
 // Flown is the met M of the layer 5.
 func Flown() api.Met {
-	any := sky(Span(0, 10), Span(5000, 9000), Span(1000, 3000), false)
+	clear := sky(Span(0, 10), Span(5000, 9000), Span(1000, 3000), false)
 	fog := sky(Span(0, 10), Span(1000, 2000), Span(1000, 3000), false)
-	return api.Met{Places: 3, Any: any, Forecasts: []api.Forecast{{Place: 2, From: 10, To: 30, Sky: fog}, {Place: 0, From: 25, To: 60, Sky: fog}}}
+	return api.Met{Places: 3, Any: clear, Forecasts: []api.Forecast{{Place: 2, From: 10, To: 30, Sky: fog}, {Place: 0, From: 25, To: 60, Sky: fog}}}
 }
 
 // Limits are the minima of the layer 5.
