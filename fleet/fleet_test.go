@@ -478,7 +478,7 @@ func random(r *rand.Rand) api.Fleet {
 	return f
 }
 
-func TestP11_5To9AllPlans(t *testing.T) {
+func TestP11_5To10AllPlans(t *testing.T) {
 	r := rand.New(rand.NewSource(1))
 	flown, long, changed := 0, 0, 0
 	for range 120 {

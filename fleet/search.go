@@ -2,6 +2,7 @@ package fleet
 
 import (
 	"cmp"
+	"iter"
 	"slices"
 
 	"swashplate/api"
@@ -109,19 +110,20 @@ func (c *crews) man(kept []api.Sortie, rows [][]api.Sortie) ([]api.Sortie, bool)
 		if n == len(rows[0]) {
 			return l, true
 		}
-		for begin, end := 0, 0; begin < len(rows); begin = end {
-			s := rows[begin][n]
-			for end < len(rows) && rows[end][n] == s {
-				end++
+		for len(rows) > 0 {
+			s, k := rows[0][n], 1
+			for k < len(rows) && rows[k][n] == s {
+				k++
 			}
 			for s := range c.crewsOf(s) {
 				if !c.may(l, s) {
 					continue
 				}
-				if found, is := extend(append(slices.Clone(l), s), rows[begin:end]); is {
+				if found, is := extend(append(slices.Clone(l), s), rows[:k]); is {
 					return found, true
 				}
 			}
+			rows = rows[k:]
 		}
 		return nil, false
 	}
@@ -129,7 +131,7 @@ func (c *crews) man(kept []api.Sortie, rows [][]api.Sortie) ([]api.Sortie, bool)
 }
 
 // crewsOf goes through a sortie with all commanders and mates, in order.
-func (c *crews) crewsOf(s api.Sortie) func(yield func(api.Sortie) bool) {
+func (c *crews) crewsOf(s api.Sortie) iter.Seq[api.Sortie] {
 	return func(yield func(api.Sortie) bool) {
 		people := len(c.Roster.People)
 		for i := range people * people {

@@ -366,7 +366,7 @@ func packed(t *testing.T, r *rand.Rand, l api.Layout) (frames, raws [][]int) {
 	return frames, raws
 }
 
-func TestP12_11AllThatIsRecordedIsRead(t *testing.T) {
+func TestP12_11And15AllThatIsRecordedIsRead(t *testing.T) {
 	r := rand.New(rand.NewSource(1))
 	for range 300 {
 		l := random(r)
