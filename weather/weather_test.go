@@ -395,10 +395,16 @@ func TestP4_10OpenForEveryWeather(t *testing.T) {
 		m, l, place, tick := anyMet(r), anyMinima(r), r.Intn(2), r.Intn(15)
 		s, _ := May(m, place, tick)
 		all, some := true, false
-		for i := range 9 * 9 * 9 * 4 {
-			w := api.Weather{Wind: i % 9, See: i / 9 % 9, Ceiling: i / 81 % 9, Ice: i/729%2 == 1, Storm: i/1458 == 1}
-			if isIn(w, s) {
-				all, some = all && flyable(w, l), some || flyable(w, l)
+		for wind := s.Wind.Low; wind <= s.Wind.High; wind++ {
+			for see := s.See.Low; see <= s.See.High; see++ {
+				for ceiling := s.Ceiling.Low; ceiling <= s.Ceiling.High; ceiling++ {
+					for wild := range 4 {
+						w := api.Weather{Wind: wind, See: see, Ceiling: ceiling, Ice: wild%2 == 1, Storm: wild/2 == 1}
+						if isIn(w, s) {
+							all, some = all && flyable(w, l), some || flyable(w, l)
+						}
+					}
+				}
 			}
 		}
 		open, e := Open(m, l, place, tick)
